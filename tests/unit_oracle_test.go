@@ -297,10 +297,19 @@ type grower struct {
 	seen []int
 }
 
+// fresh is a new variable of the fn at hand; now and then there is one more, which is never declared.
 func (g *grower) fresh() int {
 	fn := &g.fns[g.f]
-	fn.Vars = append(fn.Vars, names(1)...)
+	fn.Vars = append(fn.Vars, names(1+g.d.below(10)/9)...)
 	return len(fn.Vars) - 1
+}
+
+// freshOnes are so many at most, and at least one.
+func (g *grower) freshOnes(most int) (vars []int) {
+	for range 1 + g.d.below(most) {
+		vars = append(vars, g.fresh())
+	}
+	return vars
 }
 
 func (g *grower) use() tree {
@@ -359,7 +368,9 @@ func (g *grower) closure() tree {
 	fn := impl.Fn{Params: g.d.below(3), Rest: g.d.below(2) == 0}
 	fn.Vars = names(fn.Params)
 	for _, v := range g.seen {
-		fn.Ups = append(fn.Ups, local(v))
+		if g.d.below(3) > 0 {
+			fn.Ups = append(fn.Ups, local(v))
+		}
 	}
 	for i := range g.fns[g.f].Ups {
 		fn.Ups = append(fn.Ups, outer(i))
@@ -388,24 +399,27 @@ func (g *grower) stmt(deep int, loop bool) tree {
 	case impl.NBlock:
 		return g.block(deep, loop)
 	case impl.NLet:
-		x := let(0, g.expr(deep))
-		v := g.fresh()
-		g.seen = append(g.seen, v)
-		return x.refs(v)
+		return g.let(deep)
 	case impl.NSet:
-		return stmt(kind, expr(impl.NIndex, g.expr(deep-1), g.use()), g.expr(deep)).num(1)
+		x := stmt(kind, expr(impl.NIndex, g.expr(deep-1), g.use()), expr(impl.NIndex, one(), g.expr(deep-1)), g.expr(deep))
+		return x.num(int64(1 + g.d.below(2)))
 	case impl.NDo, impl.NDefer:
 		return stmt(kind, g.call(deep))
 	case impl.NIf:
-		return stmt(kind, g.expr(deep-1), g.block(deep, loop), g.block(deep, loop))
+		x := stmt(kind, g.expr(deep-1), g.block(deep, loop))
+		if g.d.below(3) == 0 {
+			return stmt(kind, g.expr(deep-1), g.block(deep, loop), x)
+		}
+		x.kids = append(x.kids, g.block(deep, loop))
+		return x
 	case impl.NWhile:
 		return stmt(kind, g.expr(deep-1), g.block(deep, true))
 	case impl.NFor:
 		v := g.fresh()
 		return stmt(kind, g.expr(deep-1), g.use(), one(), g.block(deep, true, v)).refs(v)
 	case impl.NEach:
-		v, w := g.fresh(), g.fresh()
-		return stmt(kind, g.expr(deep-1), g.block(deep, true, v, w)).refs(v, w)
+		vars := g.freshOnes(4)
+		return stmt(kind, g.expr(deep-1), g.block(deep, true, vars...)).refs(vars...)
 	case impl.NBreak, impl.NNext:
 		if loop || g.d.below(40) == 0 {
 			return stmt(kind)
@@ -418,6 +432,20 @@ func (g *grower) stmt(deep int, loop bool) tree {
 		return stmt(kind, g.expr(deep))
 	}
 	return giveBack(g.expr(deep), g.expr(deep))
+}
+
+// let declares one variable with one expression, mostly.
+func (g *grower) let(deep int) tree {
+	x, most := stmt(impl.NLet, g.expr(deep)), 1
+	if g.d.below(3) == 0 {
+		x, most = stmt(impl.NLet), 3
+		for range g.d.below(3) {
+			x.kids = append(x.kids, g.expr(deep-1))
+		}
+	}
+	vars := g.freshOnes(most)
+	g.seen = append(g.seen, vars...)
+	return x.refs(vars...)
 }
 
 func (g *grower) unit() impl.Unit {
@@ -570,6 +598,7 @@ func TestAgainstTheListOfFaults(t *testing.T) {
 		if got := impl.CheckUnit(u); got != fault {
 			t.Fatalf("round %d: got %v, want %v in %s", round, got, fault, show(u))
 		}
+		planned(t, u, fault)
 	}
 	t.Log("how often each code came:", told)
 	for code, many := range told {

@@ -102,6 +102,7 @@ func TestOrderOfTwoFaults(t *testing.T) {
 					if got := impl.CheckUnit(u); got != fault {
 						t.Errorf("%v: got %v, want %v", s, got, fault)
 					}
+					planned(t, u, fault)
 				}
 			}
 		}
@@ -124,6 +125,7 @@ func TestOrderOfManyFaults(t *testing.T) {
 		if got := impl.CheckUnit(u); got != fault {
 			t.Errorf("%v: got %v, want %v", s, got, fault)
 		}
+		planned(t, u, fault)
 	}
 }
 
