@@ -103,7 +103,7 @@ func outer(index int) impl.Up { return impl.Up{Index: index} }
 // show writes a unit out, so that two can be held against each other, NaNs too.
 func show(u impl.Unit) string { return fmt.Sprintf("%#v", u) }
 
-// check asks twice, and sees to it that neither the answer nor the unit changes, and that the plans of the unit are as they have to be in any.
+// check asks twice, and sees to it that neither the answer nor the unit changes, and that the plans of the unit and its code are as they have to be in any.
 func check(t *testing.T, u impl.Unit) impl.Fault {
 	t.Helper()
 	before := show(u)
@@ -112,6 +112,7 @@ func check(t *testing.T, u impl.Unit) impl.Fault {
 		t.Errorf("two answers: %v, then %v", got, again)
 	}
 	planned(t, u, got)
+	sound(t, u, impl.Compile(u))
 	if show(u) != before {
 		t.Errorf("the unit was changed")
 	}

@@ -312,7 +312,11 @@ func (g *grower) freshOnes(most int) (vars []int) {
 	return vars
 }
 
+// use is a variable in scope, or now and then one that is closed over.
 func (g *grower) use() tree {
+	if ups := len(g.fns[g.f].Ups); ups > 0 && g.d.below(3) == 0 {
+		return expr(impl.NUp).refs(g.d.below(ups))
+	}
 	if len(g.seen) == 0 {
 		return one()
 	}
@@ -351,14 +355,65 @@ func (g *grower) expr(deep int) tree {
 	case impl.NCall:
 		return g.call(deep)
 	case impl.NTable:
-		return expr(kind, g.expr(deep-1), g.expr(deep-1), one(), g.call(deep)).op(g.d.below(2))
+		return g.table(deep)
 	case impl.NOne:
-		return expr(kind, g.call(deep))
+		return expr(kind, g.many(deep))
 	}
 	return expr(kind)
 }
 
-func (g *grower) call(deep int) tree { return call(g.expr(deep-1), g.expr(deep-1)) }
+// exprs are so many expressions at most, none now and then.
+func (g *grower) exprs(deep, most int) (list []tree) {
+	for range g.d.below(most + 1) {
+		list = append(list, g.expr(deep))
+	}
+	return list
+}
+
+func (g *grower) call(deep int) tree {
+	return call(append([]tree{g.expr(deep - 1)}, g.exprs(deep-1, 2)...)...)
+}
+
+func (g *grower) many(deep int) tree {
+	if g.fns[g.f].Rest && g.d.below(3) == 0 {
+		return expr(impl.NRest)
+	}
+	return g.call(deep)
+}
+
+func (g *grower) table(deep int) tree {
+	x := expr(impl.NTable)
+	for range g.d.below(3) {
+		x.kids = append(x.kids, g.expr(deep-1), g.expr(deep-1))
+	}
+	if g.d.below(2) == 0 {
+		x.kids = append(x.kids, one(), g.many(deep))
+		return x.op(1)
+	}
+	return x
+}
+
+func (g *grower) target(deep int) tree {
+	ups := len(g.fns[g.f].Ups)
+	switch sort := g.d.below(4); {
+	case sort < 2 && len(g.seen) > 0:
+		return g.use()
+	case sort == 2 && ups > 0:
+		return expr(impl.NUp).refs(g.d.below(ups))
+	}
+	return expr(impl.NIndex, g.expr(deep-1), g.use())
+}
+
+func (g *grower) set(deep int) tree {
+	x := stmt(impl.NSet)
+	for range 1 + g.d.below(2)*g.d.below(3) {
+		x.kids = append(x.kids, g.target(deep))
+	}
+	x.node.Num = int64(len(x.kids))
+	x.kids = append(x.kids, g.exprs(deep-1, 2)...)
+	x.kids = append(x.kids, g.expr(deep))
+	return x
+}
 
 // closure makes a new fn that closes over what it finds.
 func (g *grower) closure() tree {
@@ -401,8 +456,7 @@ func (g *grower) stmt(deep int, loop bool) tree {
 	case impl.NLet:
 		return g.let(deep)
 	case impl.NSet:
-		x := stmt(kind, expr(impl.NIndex, g.expr(deep-1), g.use()), expr(impl.NIndex, one(), g.expr(deep-1)), g.expr(deep))
-		return x.num(int64(1 + g.d.below(2)))
+		return g.set(deep)
 	case impl.NDo, impl.NDefer:
 		return stmt(kind, g.call(deep))
 	case impl.NIf:
@@ -431,7 +485,7 @@ func (g *grower) stmt(deep int, loop bool) tree {
 	case impl.NThrow:
 		return stmt(kind, g.expr(deep))
 	}
-	return giveBack(g.expr(deep), g.expr(deep))
+	return giveBack(g.exprs(deep, 2)...)
 }
 
 // let declares one variable with one expression, mostly.
