@@ -48,7 +48,7 @@ func ending(ups ...impl.Up) impl.Proto {
 
 func showCode(c impl.Code) string { return fmt.Sprintf("%#v", c) }
 
-// asked is what the program answers of a code. All is asked twice, and the code has to be the same behind it.
+// asked is what the program answers of a code. All is asked twice, and the code has to be the same behind it. What it is tidied to has to be what the promise says of every code.
 func asked(t *testing.T, c impl.Code) (shape, full impl.CodeFault, states [][]impl.State) {
 	t.Helper()
 	before := showCode(c)
@@ -67,6 +67,7 @@ func asked(t *testing.T, c impl.Code) (shape, full impl.CodeFault, states [][]im
 			t.Errorf("states of proto %d, which there is not: %v", p, got)
 		}
 	}
+	wellTidied(t, "tidied", c, impl.Tidy(c))
 	if showCode(c) != before {
 		t.Errorf("the code was changed")
 	}

@@ -366,6 +366,7 @@ func (g *codeGrower) spoilHead(p *impl.Proto) {
 }
 
 func TestCodesAgainstTheDocument(t *testing.T) {
+	t.Parallel()
 	d := dice(11)
 	g := &codeGrower{dice: &d}
 	told := map[int]int{}
@@ -405,6 +406,7 @@ func TestCodesAgainstTheDocument(t *testing.T) {
 
 // Every instruction with small fields, ahead of which three registers hold whatever they can, under each sort of guard.
 func TestSmallCodesAgainstTheDocument(t *testing.T) {
+	t.Parallel()
 	d := dice(12)
 	for round := range 60000 {
 		types := ""

@@ -147,6 +147,7 @@ func wantLeaving(t *testing.T, kind int, around ...layer) {
 
 // Each kind of loop, straight and through up to two layers, and one of each kind through three, each in each order.
 func TestCompileLeaving(t *testing.T) {
+	t.Parallel()
 	for _, kind := range []int{impl.NBreak, impl.NNext} {
 		for i, loop := range rings {
 			wantLeaving(t, kind, loop)

@@ -541,6 +541,7 @@ func (g *grower) grown() impl.Unit {
 }
 
 func TestCompileAgainstTheRules(t *testing.T) {
+	t.Parallel()
 	g := &grower{d: 5}
 	ops := map[int]int{}
 	refused := 0

@@ -106,6 +106,15 @@ func (k *stepper) putList(reg int, list []thing) {
 	k.regs[reg] = slot{kind: impl.TList, list: slices.Clone(list)}
 }
 
+// putLonger throws when a list becomes too long, as one that is joined to itself in a loop would.
+func (k *stepper) putLonger(reg int, more []thing) {
+	list := append(k.held(reg, impl.TList).list, more...)
+	if len(list) > 250 {
+		panic(thrown{thing{text: "too long"}})
+	}
+	k.putList(reg, list)
+}
+
 func (k *stepper) step() {
 	k.next = k.pc + 1
 	x := k.p.Ins[k.pc]
@@ -212,9 +221,9 @@ func (k *stepper) lists(x impl.Ins) {
 	case impl.IList:
 		k.putList(x.A, nil)
 	case impl.IAdd:
-		k.putList(x.A, append(k.held(x.A, impl.TList).list, k.value(x.B)))
+		k.putLonger(x.A, []thing{k.value(x.B)})
 	case impl.IJoin:
-		k.putList(x.A, append(k.held(x.A, impl.TList).list, k.list(x.B)...))
+		k.putLonger(x.A, k.list(x.B))
 	case impl.IFirst:
 		k.put(x.A, firstOf(k.list(x.B)))
 	case impl.IPick:
@@ -322,6 +331,7 @@ func (k *stepper) unwind(err thrown) {
 
 // Stepping the code of a unit shows what its tree means: the same lines, ticks, calls and operations in the same order, with the same lines at hand and the same variables to be seen in all open calls.
 func TestCompileShowsWhatTheTreeMeans(t *testing.T) {
+	t.Parallel()
 	g := &grower{d: 23}
 	ops, events := map[int]int{}, 0
 	for round := range 4000 {

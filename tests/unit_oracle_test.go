@@ -637,6 +637,7 @@ func (g *grower) renumber(u *impl.Unit) {
 }
 
 func TestAgainstTheListOfFaults(t *testing.T) {
+	t.Parallel()
 	g := &grower{d: 7}
 	var told [10]int
 	for round := range 8000 {
